@@ -113,7 +113,7 @@ def answer_dance(strings, handed):
     return [len(way)]
 
 
-ANSWERS = {
+ANSWER_BY_NUMBER = {
     0: answer_start,
     1: answer_twist,
     2: answer_turn,
@@ -130,7 +130,7 @@ ANSWERS = {
 def answer_to(strings, number, handed):
     if number != START and not strings.started:
         return [NOT_STARTED]
-    answer = ANSWERS[number]
+    answer = ANSWER_BY_NUMBER[number]
     return answer(strings, handed)
 
 
