@@ -1,47 +1,7 @@
 import unittest
-from fractions import Fraction
 
-from calling import HIGHEST, LOWEST, Refusals, after, ask, making
-
-# The last figure of each comes to the named number above, by 9 half twists.
-TO_THE_BORDER = [-9, 0, 6, 0, -3, 0, 2, 0, -2, 0, 6, 0, -4, 0, 9, 0, -9, 0, 6, 0, -8, 0, 9]
-BORDER = [1000000000, 109619147]
-ONE_BEYOND = [9, 0, -2, 0, 4, 0, -7, 0, 8, 0, -6, 0, 3, 0, -7, 0, 2, 0, -9, 0, 1, 0, -6, 0, 9]
-BEYOND = [1000000001, 109351360]
-
-# Comes to 0, 1 and so can stand ahead of any row.
-SEVENTEEN_FOR_NOTHING = [1, 1, -2] + [0] * 14
-
-
-def other_way(row):
-    return [-figure for figure in row]
-
-
-def reckoned(row):
-    """What a row comes to, as told: None stands for the endless one."""
-    value = Fraction(0)
-    for figure in row:
-        if figure != 0:
-            value = None if value is None else value + figure
-        elif value is None:
-            value = Fraction(0)
-        else:
-            value = None if value == 0 else -1 / value
-    return [1, 0] if value is None else [value.numerator, value.denominator]
-
-
-def some_rows():
-    """Rows of up to 12 figures, the same at each run."""
-    rows = []
-    seed = 12345
-    for k in range(400):
-        row = []
-        for step in range(k % 13):
-            seed = (seed * 1103515245 + 12345) % 2147483648
-            draw = (seed >> 16) % 30
-            row.append(draw - 9 if draw <= 18 else 0)
-        rows.append(row)
-    return rows
+from calling import BEYOND, BORDER, HIGHEST, LOWEST, ONE_BEYOND, SEVENTEEN_FOR_NOTHING, TO_THE_BORDER
+from calling import Refusals, after, ask, making, other_way, reckoned, some_rows
 
 
 class Start(unittest.TestCase):

@@ -1,54 +1,7 @@
 import unittest
-from math import gcd
 
-from calling import HIGHEST, HIGHEST_LOWER, LOWEST, Refusals, after, ask
+from calling import NO_FRACTIONS, Refusals, after, ask, large_fractions, parts, small_fractions, told_way
 from twostrings.rows import can_be_danced, comes_to
-
-NO_FRACTIONS = [
-    (10000, 1), (-10000, 1), (10001, 10000), (HIGHEST, 1), (LOWEST, 1), (HIGHEST, 0), (LOWEST, 0),
-    (1, 10000), (-1, 10000), (1, HIGHEST_LOWER), (0, HIGHEST_LOWER), (LOWEST, HIGHEST_LOWER),
-    (2, 2), (-2, 2), (6, 4), (-6, 4), (4, 6), (9999, 9999), (-9999, 9999), (9999, 3), (20, 2),
-    (0, 0), (-1, 0), (2, 0), (-2, 0), (9999, 0), (-9999, 0),
-    (0, 2), (0, 3), (0, 9999),
-]
-
-
-def toward_nothing(upper, lower):
-    """Whole, rounded towards 0, whatever the signs."""
-    whole = abs(upper) // abs(lower)
-    return whole if (upper < 0) == (lower < 0) else -whole
-
-
-def parts(upper, lower):
-    if lower == 0:
-        return []
-    first = toward_nothing(upper, lower)
-    rest = upper - first * lower
-    return [first] + (parts(lower, rest) if rest != 0 else [])
-
-
-def told_way(upper, lower):
-    if lower == 0:
-        return [0]
-    row = []
-    numbered = list(enumerate(parts(upper, lower), start=1))
-    for number, part in reversed(numbered):
-        if part != 0:
-            row.append(part if number % 2 == 1 else -part)
-        if number != 1:
-            row.append(0)
-    return row
-
-
-def small_fractions():
-    return [(1, 0)] + [(p, q) for q in range(1, 41) for p in range(-60, 61) if gcd(p, q) == 1]
-
-
-def large_fractions():
-    """Some of those up to 9,999, the ends among them."""
-    some = [(p, q) for p in range(-9999, 10000, 307) for q in range(1, 10000, 271) if gcd(p, q) == 1]
-    ends = [(9999, 1), (-9999, 1), (1, 9999), (-1, 9999), (9999, 9998), (-9999, 9998), (9998, 9999), (-9998, 9999)]
-    return some + ends
 
 
 class Way(Refusals, unittest.TestCase):
